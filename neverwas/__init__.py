@@ -1,0 +1,1 @@
+"""Neverwas: compaction of a log whose writes may be retracted."""

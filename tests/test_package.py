@@ -1,0 +1,84 @@
+"""Tests of the interface as a whole: which file defines what, and who imports whom."""
+
+import ast
+import inspect
+import pathlib
+import unittest
+
+from neverwas import dependencies, errors, logs
+
+PACKAGE = pathlib.Path(__file__).resolve().parent.parent / "neverwas"
+# In the order of the stages: a file imports only from the files above it.
+FUNCTIONS = {
+    "errors": {},
+    "logs": {
+        "is_entry": "(value)",
+        "is_log": "(value)",
+        "entry_of": "(log, entry_id)",
+        "position_of": "(log, entry_id)",
+        "writers_of": "(log, cell)",
+        "readers_of": "(log, cell)",
+    },
+    "dependencies": {
+        "dependencies": "(log, target, *, retracted=())",
+        "dependency_set": "(log, target, *, retracted=())",
+        "source_of": "(log, reader, cell, *, retracted=())",
+    },
+}
+CLASSES = [
+    "LogError", "InvalidLog", "UnknownId", "UnknownCell", "SealedWrite", "DuplicateId", "InvalidBudget",
+    "NotCompact", "InvalidRules", "InvalidCommand", "InvalidRecord", "ParseError",
+]
+
+
+def tree_of(name):
+    return ast.parse((PACKAGE / f"{name}.py").read_text(encoding="ascii"))
+
+
+class Interface(unittest.TestCase):
+    def test_each_function_is_defined_in_its_file(self):
+        for module in (errors, logs, dependencies):
+            name = module.__name__.split(".")[1]
+            defined = [node.name for node in tree_of(name).body if isinstance(node, ast.FunctionDef)]
+            for function, signature in FUNCTIONS[name].items():
+                self.assertIn(function, defined)
+                self.assertEqual(signature, str(inspect.signature(getattr(module, function))), function)
+
+    def test_each_class_is_defined_in_errors(self):
+        defined = [node.name for node in tree_of("errors").body if isinstance(node, ast.ClassDef)]
+        self.assertEqual(CLASSES, defined)
+
+    def test_the_package_file_defines_no_names(self):
+        for node in tree_of("__init__").body:
+            self.assertIsInstance(node, ast.Expr)
+            self.assertIsInstance(node.value, ast.Constant)
+
+    def test_each_stage_imports_only_from_earlier_ones(self):
+        order = list(FUNCTIONS)
+        for position, name in enumerate(order):
+            for node in ast.walk(tree_of(name)):
+                self.assertNotIsInstance(node, ast.Import)
+                if isinstance(node, ast.ImportFrom):
+                    self.assertEqual(0, node.level)
+                    self.assertIn(node.module, [f"neverwas.{earlier}" for earlier in order[:position]])
+
+
+class Files(unittest.TestCase):
+    def test_the_folder_holds_nothing_else(self):
+        found = sorted(path.name for path in PACKAGE.iterdir() if path.name != "__pycache__")
+        self.assertEqual(sorted(f"{name}.py" for name in ["__init__", *FUNCTIONS]), found)
+
+    def test_sizes_and_characters(self):
+        for name in ["__init__", *FUNCTIONS]:
+            lines = (PACKAGE / f"{name}.py").read_bytes().split(b"\n")
+            self.assertLess(len(lines), 400, name)
+            for line in lines:
+                self.assertLessEqual(len(line), 120, line)
+                self.assertTrue(all(32 <= sign <= 126 for sign in line), line)
+            for node in ast.walk(tree_of(name)):
+                if isinstance(node, ast.FunctionDef):
+                    self.assertLessEqual(node.end_lineno - node.lineno + 1, 40, node.name)
+
+
+if __name__ == "__main__":
+    unittest.main()
