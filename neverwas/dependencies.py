@@ -1,27 +1,28 @@
 """What the answers of queries depend on, after some writes are retracted."""
 
-from neverwas.errors import SealedWrite, UnknownCell, UnknownId
-from neverwas.logs import END, cells_read, cells_written, check_log, id_of, is_id, is_sealed
-from neverwas.logs import position_of, query_ids, readers_of
+from neverwas.errors import SealedWrite, UnknownId
+from neverwas.logs import ID, KIND, PRICE, READS
+from neverwas.logs import cells_written, check_log, check_reads, is_id, is_write_at, position_in
 
 
 def check_retracted(log, retracted):
     """Raise the error of the first item that may not be retracted in this log."""
     if not isinstance(retracted, (list, tuple)):
         raise UnknownId(retracted)
-    queries = query_ids(log)
-    sealed = [id_of(entry) for entry in log if is_sealed(entry)]
+    entries = {entry[ID]: entry for entry in log}
     for entry_id in retracted:
-        if not is_id(entry_id) or entry_id in queries:
+        if not is_id(entry_id):
             raise UnknownId(entry_id)
-        if entry_id in sealed:
-            raise SealedWrite(entry_id)
+        if entry_id in entries:
+            check_may_be_retracted(entries[entry_id])
 
 
-def check_reads(log, reader, cell):
-    """Raise UnknownCell unless this entry, or the end, reads or queries the cell."""
-    if reader not in readers_of(log, cell):
-        raise UnknownCell(cell)
+def check_may_be_retracted(entry):
+    """Raise the error of a query or a sealed write."""
+    if entry[KIND] == "query":
+        raise UnknownId(entry[ID])
+    if entry[PRICE] is None:
+        raise SealedWrite(entry[ID])
 
 
 def check_target(log, target):
@@ -29,14 +30,16 @@ def check_target(log, target):
     if not isinstance(target, tuple) or len(target) != 2:
         raise UnknownId(target)
     reader, cell = target
-    if reader != END and reader not in query_ids(log):
+    position = position_in(log, reader)
+    if is_write_at(log, position):
         raise UnknownId(reader)
-    check_reads(log, reader, cell)
+    check_reads(log, position, cell)
 
 
 def without_retracted(log, retracted):
     """Return the log as if the retracted writes had never existed."""
-    return tuple([entry for entry in log if id_of(entry) not in retracted])
+    gone = {entry_id: True for entry_id in retracted}
+    return tuple([entry for entry in log if entry[ID] not in gone])
 
 
 def source_before(live, position, cell):
@@ -44,14 +47,36 @@ def source_before(live, position, cell):
     # The reader's own writes do not count: it reads before it writes.
     for entry in reversed(live[:position]):
         if cell in cells_written(entry):
-            return id_of(entry)
+            return entry[ID]
     return None
 
 
-def triples_at(live, position):
-    """Return the triples of the write at this position, with ascending cells."""
-    entry = live[position]
-    return [(id_of(entry), cell, source_before(live, position, cell)) for cell in cells_read(entry)]
+def triples_of(live, target):
+    """Return the triples on which the target depends in a log in which nothing is retracted."""
+    reader, cell = target
+    sources = {(reader, cell): None}
+    # For each cell, those of its readers for which no source is found so far.
+    waiting = {cell: [reader]}
+    # A source precedes its readers: going backwards, all that read a write's
+    # cells are known when the write is reached.
+    for entry in reversed(live[:position_in(live, reader)]):
+        found = [written for written in cells_written(entry) if written in waiting]
+        for written in found:
+            readers = waiting.pop(written)
+            for name in readers:
+                sources[name, written] = entry[ID]
+        if found:
+            # It reads before it writes: its own cells are given out already.
+            for read in entry[READS]:
+                sources[entry[ID], read] = None
+                waiting.setdefault(read, []).append(entry[ID])
+    return [(name, read, source) for (name, read), source in sources.items()]
+
+
+def writes_in(log, triples):
+    """Return the ids of the writes that are sources in the triples, in log order."""
+    sources = {triple[2]: True for triple in triples}
+    return [entry[ID] for entry in log if entry[ID] in sources]
 
 
 def dependencies(log, target, *, retracted=()):
@@ -59,21 +84,12 @@ def dependencies(log, target, *, retracted=()):
     check_log(log)
     check_retracted(log, retracted)
     check_target(log, target)
-    live = without_retracted(log, retracted)
-    reader, cell = target
-    triples = [(reader, cell, source_before(live, position_of(live, reader), cell))]
-    # A source precedes its readers: going backwards, every triple that can
-    # name a write as its source is in the list before the write is reached.
-    for position in reversed(range(len(live))):
-        if id_of(live[position]) in [triple[2] for triple in triples]:
-            triples.extend(triples_at(live, position))
-    return triples
+    return triples_of(without_retracted(log, retracted), target)
 
 
 def dependency_set(log, target, *, retracted=()):
     """Return the ids of the writes on which the target depends, in log order."""
-    sources = [triple[2] for triple in dependencies(log, target, retracted=retracted)]
-    return [id_of(entry) for entry in log if id_of(entry) in sources]
+    return writes_in(log, dependencies(log, target, retracted=retracted))
 
 
 def source_of(log, reader, cell, *, retracted=()):
@@ -82,6 +98,6 @@ def source_of(log, reader, cell, *, retracted=()):
     check_retracted(log, retracted)
     live = without_retracted(log, retracted)
     # A retracted reader has no position in the live log: its id is unknown there.
-    position = position_of(live, reader)
-    check_reads(live, reader, cell)
+    position = position_in(live, reader)
+    check_reads(live, position, cell)
     return source_before(live, position, cell)

@@ -3,8 +3,12 @@
 from neverwas.errors import InvalidLog, UnknownCell, UnknownId
 
 END = ""
-LETTERS = "abcdefghijklmnopqrstuvwxyz"
-LETTERS_AND_DIGITS = "abcdefghijklmnopqrstuvwxyz0123456789"
+# The places of an entry's items. A query has no more than the first three.
+KIND = 0
+ID = 1
+READS = 2
+WRITES = 3
+PRICE = 4
 LONGEST_CELL = 4
 LONGEST_ID = 6
 MOST_CELLS = 3
@@ -12,89 +16,94 @@ HIGHEST_PRICE = 99
 MOST_ENTRIES = 60
 
 
-def is_word(value, longest, signs):
-    """Return whether a value is a string of 1 to `longest` of these signs."""
-    if not isinstance(value, str) or not 1 <= len(value) <= longest:
-        return False
-    return all(sign in signs for sign in value)
-
-
-def is_cell(value):
-    """Return whether any value is a cell."""
-    return is_word(value, LONGEST_CELL, LETTERS)
+def is_integer_within(value, lowest, highest):
+    """Return whether any value is an integer from `lowest` to `highest`."""
+    # True and False are integers for Python, but not for this package.
+    return isinstance(value, int) and not isinstance(value, bool) and lowest <= value <= highest
 
 
 def is_id(value):
     """Return whether any value is an id."""
-    return is_word(value, LONGEST_ID, LETTERS_AND_DIGITS)
+    if not isinstance(value, str) or not 1 <= len(value) <= LONGEST_ID:
+        return False
+    return value.isascii() and value.isalnum() and value == value.lower()
 
 
-def is_cells(value, fewest):
-    """Return whether any value is a tuple of `fewest` to 3 different, ascending cells."""
+def is_cell(value):
+    """Return whether any value is a cell."""
+    # Every cell would also do as an id.
+    return is_id(value) and len(value) <= LONGEST_CELL and value.isalpha()
+
+
+def is_cells(value, fewest, known):
+    """Return whether any value is a tuple of `fewest` to 3 different, ascending cells.
+
+    The cells found are added to `known`, a dict, whose keys are not examined again:
+    the same few cells recur throughout a log.
+    """
     if not isinstance(value, tuple) or not fewest <= len(value) <= MOST_CELLS:
         return False
-    return all(is_cell(cell) for cell in value) and list(value) == sorted(set(value))
+    before = ""
+    for cell in value:
+        if not isinstance(cell, str) or cell <= before:
+            return False
+        if cell not in known:
+            if not is_cell(cell):
+                return False
+            known[cell] = True
+        before = cell
+    return True
 
 
 def is_price(value):
     """Return whether any value is the price of a write, sealed or not."""
-    if value is None:
-        return True
-    # True and False are integers for Python, but not for this package.
-    return isinstance(value, int) and not isinstance(value, bool) and 1 <= value <= HIGHEST_PRICE
+    return value is None or is_integer_within(value, 1, HIGHEST_PRICE)
 
 
-def is_write(value):
-    """Return whether any value is a write."""
-    if not isinstance(value, tuple) or len(value) != 5 or value[0] != "write":
+def is_entry_with(value, known):
+    """Return whether any value is an entry; `known` as for is_cells."""
+    if not isinstance(value, tuple):
         return False
-    _, entry_id, reads, writes, price = value
-    return is_id(entry_id) and is_cells(reads, 0) and is_cells(writes, 1) and is_price(price)
-
-
-def is_query(value):
-    """Return whether any value is a query."""
-    if not isinstance(value, tuple) or len(value) != 3 or value[0] != "query":
-        return False
-    _, entry_id, cells = value
-    return is_id(entry_id) and is_cells(cells, 1)
+    if len(value) == 5:
+        kind, entry_id, reads, writes, price = value
+        if kind != "write" or not is_id(entry_id) or not is_price(price):
+            return False
+        return is_cells(reads, 0, known) and is_cells(writes, 1, known)
+    if len(value) == 3:
+        kind, entry_id, cells = value
+        return kind == "query" and is_id(entry_id) and is_cells(cells, 1, known)
+    return False
 
 
 def is_entry(value):
     """Return whether any value is an entry."""
-    return is_write(value) or is_query(value)
+    return is_entry_with(value, {})
 
 
 def is_log(value):
     """Return whether any value is a log."""
     if not isinstance(value, tuple) or len(value) > MOST_ENTRIES:
         return False
-    return all(is_entry(entry) for entry in value) and len({id_of(entry) for entry in value}) == len(value)
-
-
-def id_of(entry):
-    """Return the id of an entry."""
-    return entry[1]
-
-
-def cells_read(entry):
-    """Return the cells that a write reads, or that a query asks for."""
-    return entry[2]
+    known = {}
+    for entry in value:
+        if not is_entry_with(entry, known):
+            return False
+    return len({entry[ID] for entry in value}) == len(value)
 
 
 def cells_written(entry):
     """Return the cells that an entry writes; a query writes none."""
-    return entry[3] if entry[0] == "write" else ()
+    return entry[WRITES] if entry[KIND] == "write" else ()
 
 
-def is_sealed(entry):
-    """Return whether an entry is a write that cannot be retracted."""
-    return entry[0] == "write" and entry[4] is None
+def is_write_at(log, position):
+    """Return whether a write stands at this position; the end, behind the last entry, is none."""
+    return position < len(log) and log[position][KIND] == "write"
 
 
-def query_ids(log):
-    """Return the ids of the queries of a log, without the end, in log order."""
-    return [id_of(entry) for entry in log if entry[0] == "query"]
+def is_read_at(log, position, cell):
+    """Return whether the entry at this position, or the end, reads or queries any value as a cell."""
+    return is_cell(cell) if position == len(log) else cell in log[position][READS]
 
 
 def check_log(log):
@@ -109,33 +118,58 @@ def check_cell(cell):
         raise UnknownCell(cell)
 
 
+def check_reads(log, position, cell):
+    """Raise UnknownCell unless the entry at this position, or the end, reads or queries the cell."""
+    if not is_read_at(log, position, cell):
+        raise UnknownCell(cell)
+
+
+# The functions with a parameter `log` that the document lists check it. The
+# others rely on that: to examine a log takes longer than to answer most questions.
+
+
+def position_in(log, entry_id):
+    """Return the position of the entry with this id, or of the end, in what surely is a log."""
+    if entry_id == END:
+        return len(log)
+    for position, entry in enumerate(log):
+        if entry[ID] == entry_id:
+            return position
+    raise UnknownId(entry_id)
+
+
+def position_of_write(log, entry_id):
+    """Return the position of the write with this id in what surely is a log."""
+    position = position_in(log, entry_id)
+    if not is_write_at(log, position):
+        raise UnknownId(entry_id)
+    return position
+
+
 def entry_of(log, entry_id):
     """Return the entry with this id."""
     check_log(log)
-    for entry in log:
-        if id_of(entry) == entry_id:
-            return entry
-    raise UnknownId(entry_id)
+    position = position_in(log, entry_id)
+    if position == len(log):
+        raise UnknownId(entry_id)
+    return log[position]
 
 
 def position_of(log, entry_id):
     """Return how many entries precede the entry with this id, or the end."""
     check_log(log)
-    ids = [id_of(entry) for entry in log] + [END]
-    if entry_id not in ids:
-        raise UnknownId(entry_id)
-    return ids.index(entry_id)
+    return position_in(log, entry_id)
 
 
 def writers_of(log, cell):
     """Return the ids of the writes that write the cell, in log order."""
     check_log(log)
     check_cell(cell)
-    return [id_of(entry) for entry in log if cell in cells_written(entry)]
+    return [entry[ID] for entry in log if cell in cells_written(entry)]
 
 
 def readers_of(log, cell):
     """Return the ids of the readers of the cell, in log order, the end last."""
     check_log(log)
     check_cell(cell)
-    return [id_of(entry) for entry in log if cell in cells_read(entry)] + [END]
+    return [entry[ID] for entry in log if cell in entry[READS]] + [END]

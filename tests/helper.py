@@ -1,6 +1,7 @@
-"""Values and checks that several test files use."""
+"""Values, made-up logs, definitions and checks that several test files use."""
 
 import copy
+import itertools
 
 
 def nested(depth):
@@ -28,10 +29,130 @@ NO_IDS = NO_STRINGS + [
     text for text in STRINGS if text not in ("a", "abcd", "abcde", "w1", "abcdef", "123456", "write", "query")
 ]
 
+NO_BUDGETS = [value for value in ANY_VALUES if repr(value) not in ("0", "1", "2", "99")] + [
+    -2, -10, 1000, 1001, 10 ** 20, -(10 ** 40 - 1), "10", [10], (10,), {10: 10},
+]
+
 
 def same(one, other):
     """Return whether two values are equal and of the same kinds throughout (1 is not True)."""
     return repr(one) == repr(other)
+
+
+def some_log(chance, most=12, prefix=""):
+    """Return a log of up to `most` entries over few cells, with ids that begin with the prefix."""
+
+    def cells(fewest):
+        return tuple(sorted(chance.sample("abcde", chance.randint(fewest, 3))))
+
+    log = []
+    for number in range(chance.randint(0, most)):
+        if chance.random() < 0.25:
+            log.append(("query", f"{prefix}q{number}", cells(1)))
+        else:
+            log.append(("write", f"{prefix}w{number}", cells(0), cells(1), chance.choice([None, 1, 2, 3, 99])))
+    return tuple(log)
+
+
+def busy_log(price=2):
+    """Return 54 writes that all read and write a, b and c, with a query of them after every nine."""
+    log = []
+    for number in range(54):
+        log.append(("write", f"w{number}", ("a", "b", "c"), ("a", "b", "c"), price))
+        if number in range(8, 54, 9):
+            log.append(("query", f"q{number}", ("a", "b", "c")))
+    return tuple(log)
+
+
+def targets_of(log):
+    """Return all targets of the log over the cells a to f."""
+    found = [("", cell) for cell in "abcdef"]
+    return found + [(entry[1], cell) for entry in log if entry[0] == "query" for cell in entry[2]]
+
+
+def ids_of(log, kind):
+    """Return the ids of the writes, or of the queries, in log order."""
+    return [entry[1] for entry in log if entry[0] == kind]
+
+
+def prices_of(log):
+    """Return the prices of the writes that may be retracted, by their ids."""
+    return {entry[1]: entry[4] for entry in log if entry[0] == "write" and entry[4] is not None}
+
+
+def retractions_of(log):
+    """Return (price, ids) of all retractions that the log allows."""
+    prices = prices_of(log)
+    found = []
+    for count in range(len(prices) + 1):
+        for ids in itertools.combinations(prices, count):
+            found.append((sum(prices[entry_id] for entry_id in ids), list(ids)))
+    return found
+
+
+def defined_edges(log, position):
+    """Return (position of the reader, its id, cell, blockers) of a write's edges, by the words of [3.1]."""
+    found = []
+    for cell in log[position][3]:
+        for stop in range(position + 1, len(log) + 1):
+            if stop == len(log) or cell in log[stop][2]:
+                between = [entry for entry in log[position + 1:stop] if entry[0] == "write" and cell in entry[3]]
+                found.append((stop, "" if stop == len(log) else log[stop][1], cell, between))
+    return found
+
+
+def is_usable(edge):
+    return all(entry[4] is not None for entry in edge[3])
+
+
+def price_along(edge):
+    return sum(entry[4] for entry in edge[3])
+
+
+def defined_paths(log, position):
+    """Return (cost, path, blockers) of all paths of the write at this position, by the words of [3.2]."""
+    found = []
+    for edge in filter(is_usable, defined_edges(log, position)):
+        stop, reader, cell, between = edge
+        ids = [entry[1] for entry in between]
+        if stop < len(log) and log[stop][0] == "write":
+            for cost, path, more in defined_paths(log, stop):
+                found.append((price_along(edge) + cost, ((reader, cell),) + path, ids + more))
+        else:
+            found.append((price_along(edge), ((reader, cell),), ids))
+    return found
+
+
+def defined_ways(log):
+    """Return the smallest (cost, path), or None, by the ids of the writes: for logs with too many paths to list."""
+    ways = {}
+    for position in reversed(range(len(log))):
+        if log[position][0] == "write":
+            options = []
+            for edge in filter(is_usable, defined_edges(log, position)):
+                way = ways.get(edge[1], (0, ()))
+                if way is not None:
+                    options.append((price_along(edge) + way[0], (edge[1:3],) + way[1]))
+            ways[log[position][1]] = min(options, default=None)
+    return ways
+
+
+def defined_compacted(log, budget):
+    """Return the compacted log by the words of [4.2]."""
+    ways = defined_ways(log)
+    kept = [entry_id for entry_id, way in ways.items() if way is not None and way[0] <= budget]
+    return tuple(entry for entry in log if entry[0] == "query" or entry[1] in kept)
+
+
+def places_of(value):
+    """Return all lists and dicts in a value."""
+    inner = []
+    if isinstance(value, (list, tuple)):
+        inner = list(value)
+    if isinstance(value, dict):
+        inner = list(value.values())
+    found = [value] if isinstance(value, (list, dict)) else []
+    return found + [place for item in inner for place in places_of(item)]
 
 
 class Checks:
@@ -49,16 +170,24 @@ class Checks:
         self.assertTrue(same(before, (args, kwargs)), "an argument was changed")
 
     def check_fresh(self, call, *args, **kwargs):
-        """The call returns a new list each time, equal to the last, and changes no argument."""
+        """Each call returns new lists and dicts, equal to the last ones, and changes no argument."""
         before = copy.deepcopy((args, kwargs))
         first = call(*args, **kwargs)
         kept = copy.deepcopy(first)
-        self.assertIsInstance(first, list)
-        first.append("spoilt")
-        first.reverse()
+        places = places_of(first)
+        self.assertNotEqual([], places)
+        for place in places:
+            place.clear()
         second = call(*args, **kwargs)
-        self.assertIsNot(first, second)
-        self.assertEqual(kept, second)
+        self.assertTrue(same(kept, second), (kept, second))
         self.assertTrue(same(before, (args, kwargs)), "an argument was changed")
-        for value in (*args, *kwargs.values()):
-            self.assertIsNot(value, second)
+        for place in places_of(second):
+            for other in places + places_of(args) + places_of(kwargs):
+                self.assertIsNot(other, place)
+
+    def check_steady(self, call, *args, **kwargs):
+        """Each call returns the same value, and changes no argument."""
+        before = copy.deepcopy((args, kwargs))
+        first = call(*args, **kwargs)
+        self.assertTrue(same(first, call(*args, **kwargs)))
+        self.assertTrue(same(before, (args, kwargs)), "an argument was changed")

@@ -3,7 +3,7 @@
 import random
 import unittest
 
-from helper import ANY_VALUES, NO_CELLS, NO_IDS, Checks, same
+from helper import ANY_VALUES, NO_CELLS, NO_IDS, Checks, busy_log, ids_of, same, some_log, targets_of
 from neverwas.dependencies import dependencies, dependency_set, source_of
 from neverwas.errors import InvalidLog, SealedWrite, UnknownCell, UnknownId
 from neverwas.logs import is_log
@@ -51,27 +51,6 @@ def defined_triples(log, target, retracted):
     visit(first[2])
     order = sorted(triples, key=lambda source: -positions[source])
     return [first] + [triple for source in order for triple in triples[source]], sorted(order, key=positions.get)
-
-
-def some_log(chance):
-    """Return a log of up to 12 entries over few cells."""
-
-    def cells(fewest):
-        return tuple(sorted(chance.sample("abcde", chance.randint(fewest, 3))))
-
-    log = []
-    for number in range(chance.randint(0, 12)):
-        if chance.random() < 0.25:
-            log.append(("query", f"q{number}", cells(1)))
-        else:
-            log.append(("write", f"w{number}", cells(0), cells(1), chance.choice([None, 1, 2, 3, 99])))
-    return tuple(log)
-
-
-def targets_of(log):
-    """Return all targets of the log over the cells a to f."""
-    found = [("", cell) for cell in "abcdef"]
-    return found + [(entry[1], cell) for entry in log if entry[0] == "query" for cell in entry[2]]
 
 
 class Examples(Checks, unittest.TestCase):
@@ -212,6 +191,19 @@ class Dependencies(Checks, unittest.TestCase):
         self.assertEqual(["w58", "w56"], [triple[2] for triple in found[:2]])
         self.assertEqual([("w2", "a", "w0"), ("w0", "a", None)], found[-2:])
         self.assertEqual(31, len(found))
+
+    def test_a_busy_log_against_the_definition(self):
+        log = busy_log()
+        writes = ids_of(log, "write")
+        for retracted in ([], ["w1", "w12"], writes[::2], writes[1:], writes):
+            for target in targets_of(log):
+                triples, found = defined_triples(log, target, retracted)
+                self.assertEqual(triples, dependencies(log, target, retracted=retracted))
+                self.assertEqual(found, dependency_set(log, target, retracted=retracted))
+                for reader, cell, source in triples[:9]:
+                    self.assertEqual(source, source_of(log, reader, cell, retracted=retracted))
+        left = [name for name in writes if name not in ("w1", "w12")]
+        self.assertEqual(left, dependency_set(log, ("", "a"), retracted=["w1", "w12"]))
 
     def test_many_logs_against_the_definition(self):
         chance = random.Random(2)
