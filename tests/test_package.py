@@ -1,11 +1,11 @@
 """Tests of the interface as a whole: which file defines what, and who imports whom."""
 
 import ast
+import doctest
+import importlib
 import inspect
 import pathlib
 import unittest
-
-from neverwas import dependencies, errors, logs
 
 PACKAGE = pathlib.Path(__file__).resolve().parent.parent / "neverwas"
 # In the order of the stages: a file imports only from the files above it.
@@ -24,6 +24,25 @@ FUNCTIONS = {
         "dependency_set": "(log, target, *, retracted=())",
         "source_of": "(log, reader, cell, *, retracted=())",
     },
+    "paths": {
+        "blockers": "(log, writer, reader, cell)",
+        "cheapest_path": "(log, entry_id)",
+        "retractions_for": "(log, entry_id, path)",
+        "all_costs": "(log)",
+    },
+    "compaction": {
+        "compacted": "(log, *, budget=10)",
+        "is_compact": "(log, *, budget=10)",
+        "explanation": "(log, entry_id, *, budget=10)",
+        "is_explanation": "(log, entry_id, value, *, budget=10)",
+    },
+    "edits": {
+        "joined": "(one, other)",
+        "with_sealed": "(log, entry_id)",
+        "without_query": "(log, entry_id)",
+        "with_committed": "(log, entry_id, *, budget=10)",
+        "split_at": "(log, position)",
+    },
 }
 CLASSES = [
     "LogError", "InvalidLog", "UnknownId", "UnknownCell", "SealedWrite", "DuplicateId", "InvalidBudget",
@@ -37,16 +56,20 @@ def tree_of(name):
 
 class Interface(unittest.TestCase):
     def test_each_function_is_defined_in_its_file(self):
-        for module in (errors, logs, dependencies):
-            name = module.__name__.split(".")[1]
+        for name, functions in FUNCTIONS.items():
+            module = importlib.import_module(f"neverwas.{name}")
             defined = [node.name for node in tree_of(name).body if isinstance(node, ast.FunctionDef)]
-            for function, signature in FUNCTIONS[name].items():
+            for function, signature in functions.items():
                 self.assertIn(function, defined)
                 self.assertEqual(signature, str(inspect.signature(getattr(module, function))), function)
 
     def test_each_class_is_defined_in_errors(self):
         defined = [node.name for node in tree_of("errors").body if isinstance(node, ast.ClassDef)]
         self.assertEqual(CLASSES, defined)
+
+    def test_the_default_budget_is_a_name_of_compaction(self):
+        defined = [node.targets[0].id for node in tree_of("compaction").body if isinstance(node, ast.Assign)]
+        self.assertIn("DEFAULT_BUDGET", defined)
 
     def test_the_package_file_defines_no_names(self):
         for node in tree_of("__init__").body:
@@ -61,6 +84,13 @@ class Interface(unittest.TestCase):
                 if isinstance(node, ast.ImportFrom):
                     self.assertEqual(0, node.level)
                     self.assertIn(node.module, [f"neverwas.{earlier}" for earlier in order[:position]])
+
+
+class Readme(unittest.TestCase):
+    def test_its_examples(self):
+        result = doctest.testfile(str(PACKAGE.parent / "README.md"), module_relative=False, encoding="ascii")
+        self.assertGreater(result.attempted, 10)
+        self.assertEqual(0, result.failed)
 
 
 class Files(unittest.TestCase):
