@@ -1,7 +1,7 @@
 """Which writes can still matter within a budget, and why each one is kept or deleted."""
 
 from neverwas.dependencies import check_retracted, check_target, triples_of, without_retracted, writes_in
-from neverwas.errors import InvalidBudget, SealedWrite, UnknownCell, UnknownId
+from neverwas.errors import InvalidBudget, NotCompact, SealedWrite, UnknownCell, UnknownId
 from neverwas.logs import ID, KIND, PRICE
 from neverwas.logs import check_log, is_integer_within, position_of_write
 from neverwas.paths import cheapest_ways, path_blockers
@@ -37,6 +37,12 @@ def compacted(log, *, budget=DEFAULT_BUDGET):
 def is_compact(log, *, budget=DEFAULT_BUDGET):
     """Return whether the log is compact."""
     return compacted(log, budget=budget) == log
+
+
+def check_compact(log, budget):
+    """Raise NotCompact if compaction with the budget would change the log."""
+    if kept_entries(log, budget) != log:
+        raise NotCompact(f"compaction with the budget {budget} deletes entries of this log")
 
 
 def labels_for(log, ways, budget):

@@ -24,9 +24,8 @@ def joined(one, other):
     return one + other
 
 
-def with_sealed(log, entry_id):
-    """Return the log in which the price of this write is None."""
-    check_log(log)
+def sealed_in(log, entry_id):
+    """Return what with_sealed returns, for what surely is a log."""
     position = position_of_write(log, entry_id)
     entry = log[position]
     if entry[PRICE] is None:
@@ -34,19 +33,16 @@ def with_sealed(log, entry_id):
     return log[:position] + (entry[:PRICE] + (None,),) + log[position + 1:]
 
 
-def without_query(log, entry_id):
-    """Return the log without this query."""
-    check_log(log)
+def dropped_from(log, entry_id):
+    """Return what without_query returns, for what surely is a log."""
     position = position_in(log, entry_id)
     if position == len(log) or log[position][KIND] != "query":
         raise UnknownId(entry_id)
     return without_entry(log, position)
 
 
-def with_committed(log, entry_id, *, budget=DEFAULT_BUDGET):
-    """Return (log, budget): the log without this write, and the budget reduced by its price."""
-    check_log(log)
-    check_budget(budget)
+def committed_in(log, entry_id, budget):
+    """Return what with_committed returns, for what surely are a log and a budget."""
     position = position_of_write(log, entry_id)
     price = log[position][PRICE]
     if price is None:
@@ -54,6 +50,25 @@ def with_committed(log, entry_id, *, budget=DEFAULT_BUDGET):
     if price > budget:
         raise InvalidBudget(f"the price {price} exceeds the budget {budget}")
     return (without_entry(log, position), budget - price)
+
+
+def with_sealed(log, entry_id):
+    """Return the log in which the price of this write is None."""
+    check_log(log)
+    return sealed_in(log, entry_id)
+
+
+def without_query(log, entry_id):
+    """Return the log without this query."""
+    check_log(log)
+    return dropped_from(log, entry_id)
+
+
+def with_committed(log, entry_id, *, budget=DEFAULT_BUDGET):
+    """Return (log, budget): the log without this write, and the budget reduced by its price."""
+    check_log(log)
+    check_budget(budget)
+    return committed_in(log, entry_id, budget)
 
 
 def split_at(log, position):

@@ -80,15 +80,20 @@ def is_entry(value):
     return is_entry_with(value, {})
 
 
-def is_log(value):
-    """Return whether any value is a log."""
-    if not isinstance(value, tuple) or len(value) > MOST_ENTRIES:
+def is_log_within(value, most):
+    """Return whether any value has at most `most` entries and is otherwise a log."""
+    if not isinstance(value, tuple) or len(value) > most:
         return False
     known = {}
     for entry in value:
         if not is_entry_with(entry, known):
             return False
     return len({entry[ID] for entry in value}) == len(value)
+
+
+def is_log(value):
+    """Return whether any value is a log."""
+    return is_log_within(value, MOST_ENTRIES)
 
 
 def cells_written(entry):

@@ -65,6 +65,20 @@ def add_reader(onward, entry, way):
             onward[cell] = reading
 
 
+def go_back(onward, entry, labels=None):
+    """Let `onward` go back over the entry, and return the way from it; labels as for cheapest_ways."""
+    way = reading = (0, ())
+    if entry[KIND] == "write":
+        way = reading = way_from(onward, entry)
+        if labels is not None:
+            reading = (labels[entry[ID]], ())
+        add_blocker(onward, entry)
+    # Only now: a write reads before it writes, and does not block what it reads itself.
+    if reading is not None:
+        add_reader(onward, entry, reading)
+    return way
+
+
 def cheapest_ways(log, labels=None):
     """Return a dict from the ids of the writes, the last one first, to (cost, path) or None.
 
@@ -74,15 +88,9 @@ def cheapest_ways(log, labels=None):
     onward = {}
     ways = {}
     for entry in reversed(log):
-        way = (0, ())
+        way = go_back(onward, entry, labels)
         if entry[KIND] == "write":
-            way = ways[entry[ID]] = way_from(onward, entry)
-            if labels is not None:
-                way = (labels[entry[ID]], ())
-            add_blocker(onward, entry)
-        # Only now: a write reads before it writes, and does not block what it reads itself.
-        if way is not None:
-            add_reader(onward, entry, way)
+            ways[entry[ID]] = way
     return ways
 
 

@@ -2,6 +2,7 @@
 
 import copy
 import itertools
+import random
 
 
 def nested(depth):
@@ -52,6 +53,45 @@ def some_log(chance, most=12, prefix=""):
         else:
             log.append(("write", f"{prefix}w{number}", cells(0), cells(1), chance.choice([None, 1, 2, 3, 99])))
     return tuple(log)
+
+
+def some_entry(chance, entry_id):
+    """Return an entry over few cells, mostly a write that is not sealed."""
+
+    def cells(fewest):
+        return tuple(sorted(chance.sample("abc", chance.randint(fewest, 2))))
+
+    if chance.random() < 0.2:
+        return ("query", entry_id, cells(1))
+    return ("write", entry_id, cells(0), cells(1), chance.choice([None, 1, 1, 2, 2, 3, 4, 5]))
+
+
+def some_command(chance, store, number):
+    """Return a command of a store, mostly one that raises no error; an entry gets an id with this number."""
+    kept = [entry[1] for entry in store.log()]
+    if chance.random() < 0.5:
+        name = chance.choice(kept) if kept and chance.random() < 0.05 else f"e{number}"
+        return ("add", some_entry(chance, name))
+    name = chance.choice(["retract"] * 4 + ["restore"] * 2 + ["seal", "drop", "drop", "commit", "lower_budget"])
+    if name == "lower_budget":
+        return (name, store.budget() + chance.choice([0, -1, -1, 1]))
+    ids = kept + store.retracted() + [f"e{chance.randint(0, number + 9)}", "", "a b"]
+    likely = {"restore": store.retracted(), "drop": ids_of(store.log(), "query")}.get(name, [])
+    return (name, chance.choice(likely if likely and chance.random() < 0.8 else ids))
+
+
+def situations(seed, count, most=12):
+    """Return made-up (log, budget, target, retracted), where the log is compact; many with open gaps."""
+    chance = random.Random(seed)
+    found = []
+    for _ in range(count):
+        budget = chance.choice([0, 0, 0, 1, 2, 101])
+        log = defined_compacted(some_log(chance, most), budget)
+        share = chance.choice([0.2, 0.5, 0.8])
+        ids = [entry_id for entry_id in prices_of(log) if chance.random() < share]
+        retracted = ids + chance.sample(["gone", "x0", "x1", "later"], chance.randint(0, 2))
+        found.append((log, budget, chance.choice(targets_of(log)), retracted))
+    return found
 
 
 def busy_log(price=2):
@@ -142,6 +182,68 @@ def defined_compacted(log, budget):
     ways = defined_ways(log)
     kept = [entry_id for entry_id, way in ways.items() if way is not None and way[0] <= budget]
     return tuple(entry for entry in log if entry[0] == "query" or entry[1] in kept)
+
+
+def defined_source(log, position, cell, retracted):
+    """Return the source by the words of [2.2]."""
+    found = None
+    for entry in log[:position]:
+        if entry[0] == "write" and cell in entry[3] and entry[1] not in retracted:
+            found = entry[1]
+    return found
+
+
+def defined_triples(log, target, retracted):
+    """Return the dependencies by the words of [2.3]."""
+    positions = {entry[1]: position for position, entry in enumerate(log)}
+    positions[""] = len(log)
+    first = (*target, defined_source(log, positions[target[0]], target[1], retracted))
+    triples = {}
+
+    def visit(source):
+        if source is None or source in triples:
+            return
+        place = positions[source]
+        triples[source] = [
+            (source, cell, defined_source(log, place, cell, retracted)) for cell in sorted(log[place][2])
+        ]
+        for triple in triples[source]:
+            visit(triple[2])
+
+    visit(first[2])
+    order = sorted(triples, key=lambda source: -positions[source])
+    return [first] + [triple for source in order for triple in triples[source]], sorted(order, key=positions.get)
+
+
+def with_entry(log, position, entry):
+    """Return the log with the entry inserted before the one at this position."""
+    return log[:position] + (entry,) + log[position:]
+
+
+def defined_is_history(log, value, budget, retracted):
+    """Return whether a tuple of entries with different ids is a history, by the words of [7.2]."""
+    kept = [entry[1] for entry in log]
+    others = [entry for entry in value if entry[1] not in kept]
+    if len(value) > 300 or any(entry[1] in retracted for entry in others):
+        return False
+    return defined_compacted(value, budget) == log
+
+
+def defined_open_gaps(log, target, budget, retracted):
+    """Return the open gaps by the words of [7.3]."""
+    positions = {entry[1]: position for position, entry in enumerate(log)}
+    positions[""] = len(log)
+    ways = {}
+    found = []
+    for reader, cell, source in defined_triples(log, target, retracted)[0]:
+        for position in range(0 if source is None else positions[source] + 1, positions[reader] + 1):
+            if (position, cell) not in ways:
+                value = with_entry(log, position, ("write", "INSERTED", (), (cell,), 1))
+                ways[position, cell] = defined_ways(value)["INSERTED"]
+            way = ways[position, cell]
+            if way is None or way[0] > budget:
+                found.append((reader, cell, position))
+    return found
 
 
 def places_of(value):

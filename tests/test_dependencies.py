@@ -3,7 +3,8 @@
 import random
 import unittest
 
-from helper import ANY_VALUES, NO_CELLS, NO_IDS, Checks, busy_log, ids_of, same, some_log, targets_of
+from helper import ANY_VALUES, NO_CELLS, NO_IDS, Checks, busy_log, defined_triples, ids_of, same, some_log
+from helper import targets_of
 from neverwas.dependencies import dependencies, dependency_set, source_of
 from neverwas.errors import InvalidLog, SealedWrite, UnknownCell, UnknownId
 from neverwas.logs import is_log
@@ -20,37 +21,6 @@ LOG = (
     ("write", "w5", ("a",), ("a",), 1),
 )
 NO_LOGS = [value for value in ANY_VALUES if not same(value, ())] + [list(LOG), LOG + LOG[:1], LOG[0]]
-
-
-def defined_source(log, position, cell, retracted):
-    """Return the source by the words of [2.2]."""
-    found = None
-    for entry in log[:position]:
-        if entry[0] == "write" and cell in entry[3] and entry[1] not in retracted:
-            found = entry[1]
-    return found
-
-
-def defined_triples(log, target, retracted):
-    """Return the dependencies by the words of [2.3]."""
-    positions = {entry[1]: position for position, entry in enumerate(log)}
-    positions[""] = len(log)
-    first = (*target, defined_source(log, positions[target[0]], target[1], retracted))
-    triples = {}
-
-    def visit(source):
-        if source is None or source in triples:
-            return
-        place = positions[source]
-        triples[source] = [
-            (source, cell, defined_source(log, place, cell, retracted)) for cell in sorted(log[place][2])
-        ]
-        for triple in triples[source]:
-            visit(triple[2])
-
-    visit(first[2])
-    order = sorted(triples, key=lambda source: -positions[source])
-    return [first] + [triple for source in order for triple in triples[source]], sorted(order, key=positions.get)
 
 
 class Examples(Checks, unittest.TestCase):

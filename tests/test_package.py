@@ -43,11 +43,47 @@ FUNCTIONS = {
         "with_committed": "(log, entry_id, *, budget=10)",
         "split_at": "(log, position)",
     },
+    "store": {
+        "store_of": "(log, *, budget=10)",
+    },
+    "histories": {
+        "open_gaps": "(log, target, *, budget=10, retracted=())",
+        "certainty": "(log, target, *, budget=10, retracted=())",
+        "is_history": "(log, value, *, budget=10, retracted=())",
+        "differs": "(log, target, value, *, budget=10, retracted=())",
+    },
+    "verdicts": {
+        "verdicts": "(log, target, *, budget=10, retracted=())",
+        "witnesses": "(log, target, entry_id, *, budget=10, retracted=())",
+        "closed_path": "(log, target, entry_id, *, budget=10, retracted=())",
+        "reachable_positions": "(log, target, *, budget=10, retracted=())",
+    },
 }
-CLASSES = [
+ERRORS = [
     "LogError", "InvalidLog", "UnknownId", "UnknownCell", "SealedWrite", "DuplicateId", "InvalidBudget",
     "NotCompact", "InvalidRules", "InvalidCommand", "InvalidRecord", "ParseError",
 ]
+# By the file and the class: the methods that the document lists.
+METHODS = {
+    ("store", "Store"): {
+        "__init__": "(self, budget=10)",
+        "add": "(self, entry)",
+        "retract": "(self, entry_id)",
+        "restore": "(self, entry_id)",
+        "seal": "(self, entry_id)",
+        "drop": "(self, entry_id)",
+        "commit": "(self, entry_id)",
+        "lower_budget": "(self, budget)",
+        "apply_all": "(self, commands)",
+        "log": "(self)",
+        "budget": "(self)",
+        "retracted": "(self)",
+        "retracted_price": "(self)",
+        "dependencies": "(self, target)",
+        "notes": "(self)",
+        "duplicate": "(self)",
+    },
+}
 
 
 def tree_of(name):
@@ -63,9 +99,18 @@ class Interface(unittest.TestCase):
                 self.assertIn(function, defined)
                 self.assertEqual(signature, str(inspect.signature(getattr(module, function))), function)
 
-    def test_each_class_is_defined_in_errors(self):
+    def test_each_error_is_defined_in_errors(self):
         defined = [node.name for node in tree_of("errors").body if isinstance(node, ast.ClassDef)]
-        self.assertEqual(CLASSES, defined)
+        self.assertEqual(ERRORS, defined)
+
+    def test_each_method_is_defined_in_its_class(self):
+        for (name, class_name), methods in METHODS.items():
+            made = getattr(importlib.import_module(f"neverwas.{name}"), class_name)
+            node, = [node for node in tree_of(name).body if isinstance(node, ast.ClassDef) and node.name == class_name]
+            defined = [method.name for method in node.body if isinstance(method, ast.FunctionDef)]
+            for method, signature in methods.items():
+                self.assertIn(method, defined)
+                self.assertEqual(signature, str(inspect.signature(getattr(made, method))), method)
 
     def test_the_default_budget_is_a_name_of_compaction(self):
         defined = [node.targets[0].id for node in tree_of("compaction").body if isinstance(node, ast.Assign)]
