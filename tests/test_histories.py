@@ -269,9 +269,8 @@ class Certainty(Checks, unittest.TestCase):
                     self.assertIs(True, is_history(log, full, budget=budget, retracted=retracted))
                     counts[kind] += 1
                     if kind == "certain":
-                        self.assertEqual(
-                            dependencies(log, target, retracted=retracted), dependencies(full, target, retracted=retracted),
-                        )
+                        expected = dependencies(full, target, retracted=retracted)
+                        self.assertEqual(expected, dependencies(log, target, retracted=retracted))
                     if price <= budget:
                         self.assertEqual("certain", kind)
         self.assertGreater(min(counts.values()), 100)

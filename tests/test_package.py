@@ -58,6 +58,20 @@ FUNCTIONS = {
         "closed_path": "(log, target, entry_id, *, budget=10, retracted=())",
         "reachable_positions": "(log, target, *, budget=10, retracted=())",
     },
+    "values": {
+        "evaluate": "(log, rules, target, *, retracted=())",
+        "distinguishing_rules": "(log, entry_id, *, budget=10)",
+    },
+    "audit": {
+        "recorded": "(commands, targets, *, budget=10)",
+        "first_invalid": "(record, *, budget=10)",
+        "replayed": "(record, *, budget=10)",
+    },
+    "texts": {
+        "format_log": "(log, *, budget=10)",
+        "parse_log": "(text)",
+    },
+    "console": {},
 }
 ERRORS = [
     "LogError", "InvalidLog", "UnknownId", "UnknownCell", "SealedWrite", "DuplicateId", "InvalidBudget",
@@ -82,6 +96,10 @@ METHODS = {
         "dependencies": "(self, target)",
         "notes": "(self)",
         "duplicate": "(self)",
+    },
+    ("console", "Console"): {
+        "__init__": "(self)",
+        "run": "(self, line)",
     },
 }
 
