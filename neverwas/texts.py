@@ -34,9 +34,9 @@ def number_in(word):
 
 def write_in(words):
     """Return the items of a write in their order, or None if the words are not arranged as in a write's line."""
-    if len(words) < 5 or words[3] != "reads" or "writes" not in words[4:]:
+    if words[3:4] != ["reads"] or "writes" not in words[4:]:
         return None
-    price = None if words[2] == SEALED else number_in(words[2])
+    price = number_in(words[2])
     if price is None and words[2] != SEALED:
         return None
     # No cell is as long as this word, so that the first one separates.

@@ -191,6 +191,11 @@ class Parse(Checks, unittest.TestCase):
             self.check(1, f"budget 1\nwrite w 1 reads {word} writes a\n")
             self.check(1, f"budget 1\nwrite w 1 reads writes a {word}\n")
 
+    def test_numbers_of_very_many_digits(self):
+        for digits in ("1" * 10, "1" * 100, "1" * 5000, "0" * 5000):
+            self.check(0, f"budget {digits}\n")
+            self.check(1, f"budget 1\nwrite w {digits} reads writes a\n")
+
     def test_prices(self):
         for price in (1, 9, 10, 99):
             log = (("write", "w", (), ("a",), price),)

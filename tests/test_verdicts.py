@@ -5,8 +5,8 @@ import random
 import unittest
 
 from helper import ANY_VALUES, NO_BUDGETS, NO_IDS, Checks, busy_log, defined_is_history, defined_open_gaps
-from helper import defined_triples, ids_of, prices_of, retractions_of, same, situations, some_log, targets_of
-from helper import with_entry
+from helper import defined_source, defined_triples, ids_of, prices_of, retractions_of, same, situations, some_log
+from helper import targets_of, with_entry
 from neverwas.compaction import compacted
 from neverwas.dependencies import dependencies, dependency_set
 from neverwas.errors import InvalidBudget, InvalidLog, NotCompact, SealedWrite, UnknownCell, UnknownId
@@ -52,6 +52,32 @@ def some_histories(chance, log, budget, retracted, count):
             if defined_is_history(log, with_entry(value, position, entry), budget, retracted):
                 value = with_entry(value, position, entry)
         found.append(value)
+    return found
+
+
+def defined_reach(log, target, budget, retracted):
+    """Return the writes and the positions from which reads lead to the target in some history, by trying all reads."""
+    cells = sorted({cell for entry in log if entry[0] == "write" for cell in entry[3]})
+    positions = {entry[1]: position for position, entry in enumerate(log)}
+    positions[""] = len(log)
+    hidden = set()
+    for position, cell in itertools.product(range(len(log) + 1), cells):
+        if defined_is_history(log, with_entry(log, position, ("write", "n", (), (cell,), 1)), budget, retracted):
+            hidden.add((position, cell))
+    reads = [(positions[target[0]], target[1])]
+    found = set()
+    for place, cell in reads:
+        source = defined_source(log, place, cell, retracted)
+        first = 0 if source is None else positions[source] + 1
+        new = [position for position in range(first, place + 1) if (position, cell) in hidden]
+        new += [] if source is None else [source]
+        for name in new:
+            if name not in found:
+                found.add(name)
+                if isinstance(name, int):
+                    reads += [(name, read) for read in cells]
+                else:
+                    reads += [(positions[name], read) for read in log[positions[name]][2]]
     return found
 
 
@@ -239,6 +265,14 @@ class Verdicts(Checks, unittest.TestCase):
                 for name in depends - set(ids_of(log, "write")):
                     self.assertIn(log_position(log, value, name), positions)
         self.assertGreater(min(counts.values()), 60)
+
+    def test_all_reads_that_histories_may_have(self):
+        for log, budget, target, retracted in situations(69, 200, 20):
+            reach = defined_reach(log, target, budget, retracted)
+            found = verdicts(log, target, budget=budget, retracted=retracted)
+            self.assertEqual(reach & set(found), {name for name, verdict in found.items() if verdict != "never"})
+            expected = sorted(name for name in reach if isinstance(name, int))
+            self.assertEqual(expected, self.positions(log, target, budget, retracted))
 
     def test_all_small_histories(self):
         # The document's own wording: up to two additional writes at all positions.
